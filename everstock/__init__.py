@@ -1,0 +1,1 @@
+"""Everstock: stores that last, whatever is asked of them."""

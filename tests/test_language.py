@@ -1,0 +1,97 @@
+"""The rules of the language that can be read off the files without running them."""
+
+import ast
+import pathlib
+import re
+import unittest
+
+PACKAGE = pathlib.Path(__file__).resolve().parent.parent / "everstock"
+FILES = sorted(path for path in PACKAGE.rglob("*") if "__pycache__" not in path.parts)
+FROM_THE_LIBRARY = ("heapq", "math", "itertools", "collections")
+BUILTINS = set(
+    "len range enumerate zip min max sum abs sorted reversed int str bool bytes list tuple dict set"
+    " frozenset isinstance ord repr any all divmod pow iter next map type super".split()
+)
+UNUSED_WORDS = ("law", "open", "input", "register", "elements", "type", "enum", "eval", "exec")
+
+
+def trees():
+    for path in FILES:
+        if path.suffix == ".py":
+            yield path, ast.parse(path.read_text(encoding="utf-8"))
+
+
+def functions(tree):
+    return [node for node in ast.walk(tree) if isinstance(node, ast.FunctionDef)]
+
+
+class TheLanguage(unittest.TestCase):
+    def test_there_are_files_of_python_alone(self):
+        self.assertIn(PACKAGE / "__init__.py", FILES)
+        for path in FILES:
+            self.assertTrue(path.is_dir() or re.fullmatch(r"[a-z0-9_]+\.py", path.name), path)
+            self.assertNotRegex(path.name, "^(law_|test|site|conftest)")
+
+    def test_sizes_and_characters(self):
+        for path, tree in trees():
+            lines = path.read_text(encoding="utf-8").split("\n")
+            self.assertLessEqual(len(lines), 400, path)
+            for line in lines:
+                self.assertLessEqual(len(line), 120, path)
+                self.assertTrue(all(" " <= sign <= "~" for sign in line), (path, line))
+            for function in functions(tree):
+                self.assertLessEqual(function.end_lineno - function.lineno + 1, 40, function.name)
+
+    def test_imports(self):
+        for path, tree in trees():
+            for node in ast.walk(tree):
+                self.assertNotIsInstance(node, ast.Import, path)
+                if isinstance(node, ast.ImportFrom):
+                    self.assertEqual(node.level, 0)
+                    top = node.module.split(".")[0]
+                    self.assertIn(top, ("everstock",) + FROM_THE_LIBRARY, path)
+                    self.assertNotIn("*", [name.name for name in node.names])
+
+    def test_no_floats_no_division_no_global_and_no_decorators(self):
+        barred = (ast.Div, ast.AsyncFunctionDef, ast.Await, ast.Global)
+        for path, tree in trees():
+            for node in ast.walk(tree):
+                self.assertNotIsInstance(node, barred, path)
+                if isinstance(node, ast.Constant):
+                    self.assertNotIsInstance(node.value, (float, complex), path)
+            for function in functions(tree):
+                self.assertEqual(function.decorator_list, [], function.name)
+
+    def test_module_level_holds_plain_things(self):
+        plain = (ast.FunctionDef, ast.ClassDef, ast.ImportFrom, ast.Assign)
+        for path, tree in trees():
+            for at, node in enumerate(tree.body):
+                docstring = at == 0 and isinstance(node, ast.Expr)
+                self.assertTrue(docstring or isinstance(node, plain), (path, node.lineno))
+
+    def test_no_name_of_a_builtin_and_no_barred_word(self):
+        for path, tree in trees():
+            for node in ast.walk(tree):
+                if isinstance(node, ast.Name):
+                    if isinstance(node.ctx, ast.Store):
+                        self.assertNotIn(node.id, BUILTINS, path)
+                        self.assertNotIn(node.id, UNUSED_WORDS, path)
+                elif isinstance(node, ast.arg):
+                    self.assertNotIn(node.arg, BUILTINS, path)
+                    self.assertNotIn(node.arg, UNUSED_WORDS, path)
+
+    def test_all_of_the_interface_is_defined_in_its_file(self):
+        for name, defined in (
+            ("errors", "StockError NoAsk NoKind NoName Taken Full NoHouse NoStore NoWay NoSpare"
+                       " NoGuide NoBook NoRound"),
+            ("houses", "is_house is_store leads covers"),
+            ("asks", "lasts least"),
+        ):
+            tree = ast.parse((PACKAGE / (name + ".py")).read_text(encoding="utf-8"))
+            there = [node.name for node in tree.body if isinstance(node, (ast.FunctionDef, ast.ClassDef))]
+            for word in defined.split():
+                self.assertIn(word, there)
+
+
+if __name__ == "__main__":
+    unittest.main()
