@@ -1,6 +1,6 @@
 """How many asks a store lasts, and the least stores that last so many."""
 
-from everstock.fours import covers_one, in_four, least_in_both, least_of, needed
+from everstock.fours import covers_one, in_four, least_in_all, least_of, needed
 from everstock.houses import kinds_of
 
 NOTHING = (0, 0, 0, 0)
@@ -32,8 +32,13 @@ def least(house, n):
         # Each list hangs on the one before alone: from here on all are alike.
         if found == before:
             break
+    return cut(house, found)
+
+
+def cut(house, stores):
+    """Stores of four numbers with as many as the house has kinds."""
     kinds = kinds_of(house)
-    return [store[:kinds] for store in found]
+    return [store[:kinds] for store in stores]
 
 
 def asks_in_four(house):
@@ -43,13 +48,7 @@ def asks_in_four(house):
 
 def least_one_more(asks, before):
     """The least stores that last one ask more than those before."""
-    needs = [least_for_ask(ask, before) for ask in asks]
-    # What lasts one more lasts as many as before, so it covers one of those: with
-    # these at the start, and the short lists ahead, few stores come up between.
-    found = before
-    for need in sorted(needs, key=len):
-        found = least_in_both(found, need)
-    return found
+    return least_in_all(before, [least_for_ask(ask, before) for ask in asks])
 
 
 def least_for_ask(ask, before):

@@ -38,6 +38,13 @@ def needed(way, stores):
     return [(max(0, e - a), max(0, f - b), max(0, g - c), max(0, h - d)) for e, f, g, h in stores]
 
 
+def reached_by(way, store):
+    """What there is behind the way; numbers below 0 where it leads to no store."""
+    a, b, c, d = way
+    e, f, g, h = store
+    return a + e, b + f, c + g, d + h
+
+
 def joined(store, stores):
     """For each of the stores the least one that covers it and the told store."""
     a, b, c, d = store
@@ -53,3 +60,13 @@ def least_in_both(stores, others):
         else:
             found.extend(joined(store, others))
     return least_of(found)
+
+
+def least_in_all(before, needs):
+    """The least of all that cover one of those before and one of each of the needs."""
+    # What lasts one ask more lasts as many as before, so it covers one of those: with
+    # these at the start, and the short lists ahead, few stores come up between.
+    found = before
+    for need in sorted(needs, key=len):
+        found = least_in_both(found, need)
+    return found

@@ -43,9 +43,19 @@ def kinds_of(house):
 
 def is_store(house, thing):
     """True where the thing, anything, is a store of the house."""
-    if not is_house(house) or not isinstance(thing, tuple) or len(thing) != kinds_of(house):
+    return is_house(house) and is_store_of(thing, kinds_of(house))
+
+
+def is_store_of(thing, kinds):
+    """True where the thing, anything, is a store of so many kinds."""
+    if not isinstance(thing, tuple) or len(thing) != kinds:
         return False
     return all([is_whole(number) and number >= 0 for number in thing])
+
+
+def is_number_of(thing, many):
+    """True where the thing, anything, is the number of one of so many, from 0 on."""
+    return is_whole(thing) and 0 <= thing < many
 
 
 def leads(house, i, store):

@@ -86,6 +86,9 @@ class TheLanguage(unittest.TestCase):
                        " NoGuide NoBook NoRound"),
             ("houses", "is_house is_store leads covers"),
             ("asks", "lasts least"),
+            ("boxes", "least_within how_many above"),
+            ("fates", "time life keep book"),
+            ("keeps", "is_keep is_guide guide guided"),
         ):
             tree = ast.parse((PACKAGE / (name + ".py")).read_text(encoding="utf-8"))
             there = [node.name for node in tree.body if isinstance(node, (ast.FunctionDef, ast.ClassDef))]
