@@ -6,6 +6,7 @@ number: they are what nearly all the time is spent on.
 """
 
 FOUR = 4
+NOTHING = (0, 0, 0, 0)
 
 
 def in_four(numbers):
@@ -48,17 +49,22 @@ def reached_by(way, store):
 def joined(store, stores):
     """For each of the stores the least one that covers it and the told store."""
     a, b, c, d = store
-    return [(max(a, e), max(b, f), max(c, g), max(d, h)) for e, f, g, h in stores]
+    # Written out, this takes half the time that it takes by max.
+    return [
+        (a if a > e else e, b if b > f else f, c if c > g else g, d if d > h else h)
+        for e, f, g, h in stores
+    ]
 
 
 def least_in_both(stores, others):
-    """The least of all that cover one of the stores and one of the others."""
+    """The least of all that cover one of the stores and one of the others; no store covers another one."""
     found = []
     for store in stores:
         if covers_one(store, others):
             found.append(store)
         else:
-            found.extend(joined(store, others))
+            # Most of them fall away at once, before they are many.
+            found.extend(least_of(joined(store, others)))
     return least_of(found)
 
 

@@ -28,6 +28,11 @@ def is_ask(thing):
     return is_tuple_of(thing, MOST_WAYS) and all([is_way(way) for way in thing])
 
 
+def is_pair(thing):
+    """True for a tuple of two."""
+    return isinstance(thing, tuple) and len(thing) == 2
+
+
 def is_house(thing):
     """True where the thing, anything, is a house."""
     if not is_tuple_of(thing, MOST_ASKS) or not all([is_ask(ask) for ask in thing]):
@@ -60,12 +65,13 @@ def is_number_of(thing, many):
 
 def leads(house, i, store):
     """The pairs (way's number, store to which it leads) of the ask i, by number."""
-    found = []
-    for number, way in enumerate(house[i]):
-        reached = tuple([there + change for there, change in zip(store, way)])
-        if min(reached) >= 0:
-            found.append((number, reached))
-    return found
+    found = [(number, put_together(store, way)) for number, way in enumerate(house[i])]
+    return [(number, reached) for number, reached in found if min(reached) >= 0]
+
+
+def put_together(numbers, others):
+    """The numbers of both, kind by kind, added."""
+    return tuple([one + other for one, other in zip(numbers, others)])
 
 
 def covers(store, other):

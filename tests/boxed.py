@@ -52,6 +52,14 @@ def small_houses(seed, many):
             yield house_of_taking(chance, *size)
 
 
+def all_below_known(house, store):
+    """True where the store, with any less of one kind, too, has a small time."""
+    most = 6 if len(store) < 4 else 3
+    lower = [store[:kind] + (number,) + store[kind + 1:]
+             for kind in range(len(store)) for number in range(store[kind] + 1)]
+    return all(by_words.time(house, one, most) is not None for one in lower)
+
+
 def parts_changed(thing, odd):
     """The thing with one part of it, however far inside, less, twice, or one of the odd ones instead."""
     if isinstance(thing, (tuple, list)):

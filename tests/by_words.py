@@ -174,3 +174,62 @@ def guide(house, kept):
             ]
             found[first, i] = pairs[0]
     return found
+
+
+def is_book(house, store, thing):
+    if type(thing) is not dict:
+        return False
+    for there, pair in thing.items():
+        if not is_store(house, there) or not is_pair(pair):
+            return False
+        if not is_number(pair[0]) or pair[0] < 1 or not is_number(pair[1], len(house)):
+            return False
+    for there, (rank, i) in thing.items():
+        for way in house[i]:
+            reached = leads_to(way, there)
+            if reached is not None:
+                if not any(covers(one, reached) and its[0] < rank for one, its in thing.items()):
+                    return False
+    return any(covers(one, store) for one in thing)
+
+
+def played(house, store, told, answer):
+    asks, ways = [], []
+    while True:
+        covering = [(told[one][0], one) for one in told if covers(one, store)]
+        i = told[min(covering)[1]][1]
+        asks.append(i)
+        reached = {number: leads_to(way, store) for number, way in enumerate(house[i])}
+        reached = {number: one for number, one in reached.items() if one is not None}
+        if not reached:
+            return tuple(asks), tuple(ways), "stuck"
+        way = answer(i, store)
+        if type(way) is not int or way not in reached:
+            return tuple(asks), tuple(ways), "way"
+        ways.append(way)
+        store = reached[way]
+
+
+def is_round(ask, thing):
+    if type(thing) is not tuple or len(thing) != len(ask) or not all(is_number(n) for n in thing):
+        return False
+    if not any(thing):
+        return False
+    return all(sum(way[kind] * many for way, many in zip(ask, thing)) >= 0 for kind in range(len(ask[0])))
+
+
+def is_wear(ask, thing):
+    if type(thing) is not tuple or len(thing) != len(ask[0]) or not all(is_number(n) for n in thing):
+        return False
+    return all(sum(number * weight for number, weight in zip(way, thing)) <= -1 for way in ask)
+
+
+def share(ask, told):
+    """Step by step: each way taken so often as told, one behind the other."""
+    there = [0] * len(ask[0])
+    least = list(there)
+    for way, many in zip(ask, told):
+        for _ in range(many):
+            there = [one + change for one, change in zip(there, way)]
+            least = [min(one, other) for one, other in zip(least, there)]
+    return tuple(-number for number in least)
