@@ -89,11 +89,42 @@ class TheLanguage(unittest.TestCase):
             ("boxes", "least_within how_many above"),
             ("fates", "time life keep book"),
             ("keeps", "is_keep is_guide guide guided"),
+            ("books", "is_book played"),
+            ("rounds", "is_round is_wear round_or_wear worn_by rounds share shares Rounder"),
+            ("joining", "together beside times"),
+            ("hands", "Hand"),
+            ("shelf", "Shelf"),
+            ("plans", "is_plan is_stand plan_of leads_on least_there within_there lasts_there time_there life_there"),
+            ("roads", "keep_there guide_there book_there is_keep_there is_guide_there is_book_there"
+                      " guided_there played_there"),
         ):
             tree = ast.parse((PACKAGE / (name + ".py")).read_text(encoding="utf-8"))
             there = [node.name for node in tree.body if isinstance(node, (ast.FunctionDef, ast.ClassDef))]
             for word in defined.split():
                 self.assertIn(word, there)
+
+    def test_all_methods_of_the_interface_stand_in_their_class(self):
+        for name, told, defined in (
+            ("rounds", "Rounder", "__init__ meet store"),
+            ("hands", "Hand", "__init__ meet bring take add drop undo store house life met spare fork"),
+            ("shelf", "Shelf", "__init__ put drop meet lend undo names store house life lendable __eq__"),
+        ):
+            tree = ast.parse((PACKAGE / (name + ".py")).read_text(encoding="utf-8"))
+            told = [node for node in tree.body if isinstance(node, ast.ClassDef) and node.name == told][0]
+            there = [node.name for node in told.body if isinstance(node, ast.FunctionDef)]
+            for word in defined.split():
+                self.assertIn(word, there)
+
+    def test_no_two_files_import_from_each_other(self):
+        imports = {
+            path.stem: [node.module.split(".")[1] for node in ast.walk(tree)
+                        if isinstance(node, ast.ImportFrom) and node.module.startswith("everstock.")]
+            for path, tree in trees()
+        }
+        while imports:
+            free = [name for name, its in imports.items() if not any(one in imports for one in its)]
+            self.assertTrue(free, imports)
+            imports = {name: its for name, its in imports.items() if name not in free}
 
 
 if __name__ == "__main__":
