@@ -3,6 +3,11 @@
 from everstock.columns import columns_of, least_settled, sides_of
 from everstock.fours import NOTHING, covers_one, in_four, least_in_all, least_of, needed
 
+# Boxes that are gone through ahead of those just below them, of which then not each needs to be.
+GREAT_BOXES = (1, 2, 3, 4, 6, 8, 12, 16)
+# From so many stores on in one room it takes ever longer to go on from each of them.
+MANY = 60
+
 
 class Chart:
     """A plan of rooms with what was found out of it so far, so that nothing is found out twice."""
@@ -32,6 +37,11 @@ class Chart:
 
     def lasts_within(self, stand, b):
         """True where the stand covers one of the least ones of the box b."""
+        # What lasts within a box lasts within each greater one: what doesn't within the next
+        # great one needs no look at those below.
+        great = next_great(b)
+        if great > b and not self.lasts_within(stand, great):
+            return False
         room, store = stand
         there = in_four(store)
         box = self._box(b)
@@ -45,8 +55,11 @@ class Chart:
     def _box(self, b):
         """The box b, gone through so far as was asked."""
         if b not in self._boxes:
-            # What lasts within a box lasts each number of asks, so it is all among the last lists known.
-            begun = [no_more_than(b, stores) for stores in self._lists[-1]]
+            # What lasts within a box lasts each number of asks, and within each greater
+            # box, so it is all among the last lists known, and among what was found there.
+            great = self._boxes.get(next_great(b), None)
+            lists = self._lists[-1] if great is None else great.found
+            begun = [no_more_than(b, stores) for stores in lists]
             self._boxes[b] = Box(begun, self._rooms, self._kinds, b)
         return self._boxes[b]
 
@@ -81,6 +94,11 @@ class Chart:
         return [[store[:self._kinds] for store in stores] for stores in lists]
 
 
+def next_great(b):
+    """The least of the great boxes from b on; b itself where there is none."""
+    return min([great for great in GREAT_BOXES if great >= b], default=b)
+
+
 class Box:
     """A box b of a plan of rooms, gone through from one number of asks to the next until nothing changes."""
 
@@ -101,7 +119,7 @@ class Box:
             before = self.found
             self.found = least_one_more(self._rooms, before, self._b)
             self.settled = self.found == before
-            self._left -= sum([len(stores) for stores in self.found])
+            self._left -= sum([len(stores) * max(1, len(stores) // MANY) for stores in self.found])
         else:
             self.found = least_settled(self.found, self._rooms, self._kinds, self._b)
             self.settled = True

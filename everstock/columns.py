@@ -67,8 +67,9 @@ def settle(heights, rooms, sides, b):
         for ask, at, column in again:
             # Of a column of which nothing lasts there is nothing more to find out.
             if heights[column] < NONE:
-                need, support = least_need(ask, at, heights)
-                if need > heights[column]:
+                support = first_support(ask, at, heights, heights[column])
+                if support is None:
+                    need, support = least_need(ask, at, heights)
                     heights[column] = need if need <= b else NONE
                     grown.append(column)
                 leaning[support].append((ask, at, column))
@@ -95,6 +96,14 @@ def columns_led_to(way, sides, first):
             for column in found for there in reached
         ]
     return [NOWHERE if column == NOWHERE else first + column for column in found]
+
+
+def first_support(ask, at, heights, height):
+    """The first column by which the ask is met at the place with this first number; None where it isn't met."""
+    for led_to, change in ask:
+        if heights[led_to[at]] - change <= height:
+            return led_to[at]
+    return None
 
 
 def least_need(ask, at, heights):

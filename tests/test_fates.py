@@ -46,6 +46,14 @@ class Point8Time(unittest.TestCase):
             self.assertEqual(time(changing(many), (0, many)), many)
             self.assertEqual(time(changing(many), (7, 99)), many)
 
+    def test_somewhat_beyond_sixteen(self):
+        for many in (17, 18, 20, 25):
+            self.assertEqual(time(changing(many), (0, many)), many)
+            self.assertEqual(keep(changing(many), (1, 0)), [(0, many), (1, 0)])
+            self.assertEqual(time(changing(many), (0, many - 1)), 1)
+            self.assertEqual(time(WEARS_OUT, (many,)), many + 1)
+            self.assertEqual(life(WEARS_OUT, (many,)), many)
+
     def test_of_what_does_not(self):
         self.assertEqual(time(WEARS_OUT, (0,)), 1)
         for there in (1, 2, 7, 15):
