@@ -2,7 +2,7 @@
 
 from everstock.errors import NoAsk, NoHouse, NoStore
 from everstock.holdings import held
-from everstock.houses import MOST_ASKS, covers, is_house, is_number_of, is_store, put_together
+from everstock.houses import covers, is_house, is_number_of, is_store, put_together
 
 
 class Hand:
@@ -37,7 +37,7 @@ class Hand:
     def add(self, ask):
         """Adds an ask behind the others."""
         house = self._now.rules
-        if len(house) == MOST_ASKS or not is_house(house + (ask,)):
+        if not is_house(house + (ask,)):
             raise NoHouse("this is no ask of these kinds, or one too many")
         self._do("add", held(house + (ask,), self._now.stock))
 

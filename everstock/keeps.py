@@ -1,7 +1,7 @@
 """Keeps, by which stores are seen to last for ever, and guides, by which asks are met for ever."""
 
 from everstock.errors import NoGuide
-from everstock.houses import is_pair, is_store
+from everstock.houses import is_number_of, is_pair, is_store, is_store_of, kinds_of
 from everstock.plans import plan_of
 from everstock.roads import guide_there, guided_there, is_guide_there, is_keep_there
 
@@ -13,7 +13,9 @@ def is_keep(house, store, thing):
 
 def is_guide(house, store, thing):
     """True where the thing, anything, is a guide of the house that holds for the store."""
-    if not is_store(house, store) or not is_of_pairs(thing):
+    if not is_store(house, store) or not isinstance(thing, dict):
+        return False
+    if not all([is_asked(house, asked) for asked in thing]):
         return False
     return is_guide_there(plan_of(house), (0, store), in_room(thing))
 
@@ -31,11 +33,11 @@ def guided(house, store, told, asks):
     return guided_there(plan_of(house), (0, store), in_room(told), asks)
 
 
-def is_of_pairs(thing):
-    """True where the thing, anything, is a dict from pairs."""
-    return isinstance(thing, dict) and all([is_pair(key) for key in thing])
+def is_asked(house, thing):
+    """True where the thing, anything, is a pair of a store and an ask's number."""
+    return is_pair(thing) and is_store_of(thing[0], kinds_of(house)) and is_number_of(thing[1], len(house))
 
 
 def in_room(told):
-    """The dict from pairs as one from triples, of the only room of a plan."""
+    """The dict from pairs (store, ask's number) as one from triples, in the only room of a plan."""
     return {(0, first, i): met for (first, i), met in told.items()}
